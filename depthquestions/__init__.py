@@ -1,0 +1,1 @@
+"""A store that answers first-order questions of told depth, kept through edits."""

@@ -1,0 +1,183 @@
+"""The interface of the document, and those rules of LANGUAGE.md that a look at the code can tell."""
+
+import ast
+import builtins
+import importlib
+import inspect
+import re
+import unittest
+from pathlib import Path
+
+PACKAGE = Path(__file__).resolve().parent.parent / "depthquestions"
+FILES = sorted(PACKAGE.glob("*.py"))
+INTERFACE = {
+    "words": ["is_word(value)"],
+    "stores": ["is_store(value)", "store_of(marks, columns, items, facts)", "facts_of(store, item)",
+               "led_to(store, column, item)", "led_from(store, column, item)"],
+    "deeds": ["with_fact(store, fact)", "without_fact(store, fact)", "with_item(store, item)",
+              "without_item(store, item)", "done(store, edits)"],
+    "questions": ["is_question(value)", "first_wrong(value)", "free_names(question)", "depth(question)",
+                  "signs(question)", "renamed(question)", "are_alike(one, other)", "inward(question)",
+                  "plainer(question)"],
+    "texts": ["read_question(text)", "wrong_at(text)", "written(question)", "read_store(text)",
+              "store_wrong_at(text)", "written_store(store)"],
+    "plain": ["holds(store, question, binding)", "answers(store, question, names)",
+              "how_many_plain(store, question, names)", "first_choice(store, question, binding)"],
+    "errors": ["InvalidStore(value=None)", "InvalidQuestion(value=None)", "InvalidName(value=None)",
+               "InvalidItem(value=None)", "InvalidFact(value=None)", "InvalidNumber(value=None)",
+               "InvalidList(value=None)", "InvalidText(value=None)", "InvalidPaper(value=None)",
+               "InvalidFlag(value=None)", "Unlike(value=None)", "TooMany(value=None)"],
+}
+BUILTINS = set("""len range enumerate zip min max sum abs sorted reversed int str bool list tuple dict set isinstance ord
+    any all divmod ValueError""".split())
+METHODS = set("""append clear copy count endswith extend find get index insert isalnum isalpha isdigit islower isspace
+    isupper items join keys ljust lower lstrip partition pop remove replace reverse rfind rjust rpartition rsplit rstrip
+    setdefault split splitlines startswith strip update upper values zfill""".split())
+BARRED_WORDS = """type typing typing_extensions enum Enum IntEnum StrEnum Flag IntFlag Generic Protocol ABC ABCMeta
+    namedtuple NamedTuple TypedDict TYPE_CHECKING abstractmethod register mro elements open input law""".split()
+BARRED_NODES = (
+    ast.AsyncFor, ast.AsyncFunctionDef, ast.AsyncWith, ast.Await, ast.Global, ast.Nonlocal, ast.Div, ast.Try,
+    ast.GeneratorExp, ast.Yield, ast.YieldFrom, ast.With, ast.AnnAssign, ast.NamedExpr, ast.MatMult)
+MODULE_LEVEL = (ast.ImportFrom, ast.FunctionDef, ast.ClassDef, ast.Assign)
+
+
+def trees():
+    return [(path, ast.parse(path.read_text(encoding="ascii"))) for path in FILES]
+
+
+def nodes(kind):
+    return [(path, node) for path, tree in trees() for node in ast.walk(tree) if isinstance(node, kind)]
+
+
+def bound_names(tree):
+    """All names that a file binds: of functions, classes, parameters, variables and imports."""
+    found = []
+    for node in ast.walk(tree):
+        if isinstance(node, (ast.FunctionDef, ast.ClassDef)):
+            found.append(node.name)
+        elif isinstance(node, ast.arg):
+            found.append(node.arg)
+        elif isinstance(node, ast.Name) and isinstance(node.ctx, ast.Store):
+            found.append(node.id)
+        elif isinstance(node, ast.alias):
+            found.append(node.name)
+    return found
+
+
+class Interface(unittest.TestCase):
+    def test_names_and_arguments(self):
+        for name, promised in INTERFACE.items():
+            module = importlib.import_module(f"depthquestions.{name}")
+            for row in promised:
+                thing = getattr(module, row.partition("(")[0])
+                with self.subTest(name=row):
+                    self.assertEqual(f"{thing.__name__}{inspect.signature(thing)}", row)
+                    self.assertEqual(thing.__module__, module.__name__)
+
+
+class Files(unittest.TestCase):
+    def test_folder(self):
+        found = [path for path in PACKAGE.iterdir() if path.name != "__pycache__"]
+        self.assertEqual(sorted(found), FILES)
+        for path in FILES:
+            self.assertRegex(path.name, r"^[a-z0-9_]+\.py$")
+
+    def test_size_and_characters(self):
+        for path in FILES:
+            text = path.read_text(encoding="ascii")
+            self.assertRegex(text, r"\A[ -~\n]*\Z")
+            self.assertLessEqual(text.count("\n"), 399)
+            for line in text.split("\n"):
+                self.assertLessEqual(len(line), 120, (path.name, line))
+        for path, node in nodes(ast.FunctionDef):
+            self.assertLessEqual(node.end_lineno - node.lineno + 1, 40, (path.name, node.name))
+
+    def test_module_level(self):
+        for path, tree in trees():
+            bound = []
+            for node in tree.body[1:]:
+                self.assertIsInstance(node, MODULE_LEVEL, (path.name, node.lineno))
+                if isinstance(node, ast.ImportFrom):
+                    bound += [alias.name for alias in node.names]
+                elif isinstance(node, ast.Assign):
+                    bound += [target.id for target in node.targets]
+                    self.assertEqual(len(node.targets), 1)
+                else:
+                    bound.append(node.name)
+            self.assertEqual(len(bound), len(set(bound)), path.name)
+            self.assertTrue(ast.get_docstring(tree), path.name)
+
+    def test_imports(self):
+        needs = {path.stem: [] for path in FILES}
+        for path, node in nodes((ast.Import, ast.ImportFrom)):
+            self.assertIsInstance(node, ast.ImportFrom)
+            package, _, name = node.module.partition(".")
+            self.assertEqual((package, node.level), ("depthquestions", 0))
+            needs[path.stem].append(name)
+            own = [each.name for each in ast.parse((PACKAGE / f"{name}.py").read_text()).body
+                   if isinstance(each, (ast.FunctionDef, ast.ClassDef))]
+            own += [target.id for each in ast.parse((PACKAGE / f"{name}.py").read_text()).body
+                    if isinstance(each, ast.Assign) for target in each.targets]
+            for alias in node.names:
+                self.assertIn(alias.name, own)
+                self.assertIsNone(alias.asname)
+        while needs:
+            ready = [name for name in needs if not any(other in needs for other in needs[name])]
+            self.assertTrue(ready, "files import from each other")
+            needs = {name: needs[name] for name in needs if name not in ready}
+
+
+class Code(unittest.TestCase):
+    def test_statements_and_expressions(self):
+        self.assertEqual([(path.name, node.lineno) for path, node in nodes(BARRED_NODES)], [])
+        for path, node in nodes((ast.FunctionDef, ast.ClassDef)):
+            self.assertEqual(node.decorator_list, [], path.name)
+        for path, node in nodes(ast.Constant):
+            self.assertNotIsInstance(node.value, (float, complex, bytes), path.name)
+
+    def test_names(self):
+        for path, tree in trees():
+            for name in bound_names(tree):
+                self.assertFalse(name != "__init__" and hasattr(builtins, name), (path.name, name))
+                self.assertRegex(name, r"^(_?[A-Za-z][A-Za-z0-9_]*|_|__init__)$")
+            imported = [alias.name for node in tree.body if isinstance(node, ast.ImportFrom) for alias in node.names]
+            classes = [node.name for node in tree.body if isinstance(node, ast.ClassDef)]
+            for name in imported + classes:
+                self.assertEqual(bound_names(tree).count(name), 1, (path.name, name))
+        for path, node in nodes(ast.Name):
+            self.assertFalse(node.id == "_" and isinstance(node.ctx, ast.Load), path.name)
+
+    def test_builtins(self):
+        for path, tree in trees():
+            own = set(bound_names(tree))
+            for node in ast.walk(tree):
+                if isinstance(node, ast.Name) and node.id not in own:
+                    self.assertIn(node.id, BUILTINS, (path.name, node.lineno))
+
+    def test_methods(self):
+        for path, node in nodes(ast.Attribute):
+            self.assertIn(node.attr, METHODS | {"value"}, (path.name, node.lineno))
+
+    def test_words_and_strings(self):
+        for path, tree in trees():
+            docs = [ast.get_docstring(node, clean=False) for node in ast.walk(tree)
+                    if isinstance(node, (ast.Module, ast.FunctionDef, ast.ClassDef))]
+            for node in ast.walk(tree):
+                if isinstance(node, ast.Constant) and isinstance(node.value, str) and node.value not in docs:
+                    self.assertNotIn("%", node.value)
+                    self.assertFalse(node.value.startswith("__"))
+                    for word in re.findall(r"\w+", node.value):
+                        self.assertNotIn(word, BARRED_WORDS, path.name)
+            for name in bound_names(tree):
+                self.assertNotIn(name, BARRED_WORDS, path.name)
+
+    def test_comparisons_by_is(self):
+        for path, node in nodes(ast.Compare):
+            for sign, right in zip(node.ops, node.comparators):
+                if isinstance(sign, (ast.Is, ast.IsNot)):
+                    self.assertIsInstance(right, ast.Constant, path.name)
+                    self.assertIn(str(right.value), ("None", "True", "False"), path.name)
+
+
+if __name__ == "__main__":
+    unittest.main()

@@ -93,10 +93,22 @@ def or_test(one, other):
     return lambda bound: one(bound) or other(bound)
 
 
-def quantifier_test(items, name, inner, sought):
-    """Returns the test that tells what is sought if the inner one tells it for an item, and otherwise the contrary."""
+def joined_test(word, inner):
+    """Returns the test of a not, an and or an or, by the tests of its parts."""
+    if word == "not":
+        return not_test(inner[0])
+    if word == "and":
+        return and_test(inner[0], inner[1])
+    return or_test(inner[0], inner[1])
+
+
+def quantifier_test(looked, name, inner, sought):
+    """Returns the test that tells what is sought if the inner one tells it for an item, and otherwise the contrary.
+
+    The function looked tells the items that are tried.
+    """
     def test(bound):
-        for item in items:
+        for item in looked(bound):
             bound[name] = item
             if inner(bound) == sought:
                 return sought
@@ -117,22 +129,26 @@ def atom_test(store, one):
     return fixed_test(one[0] == "true")
 
 
-def part_test(store, one, inner):
+def part_test(store, looking, one, inner):
     """Returns the test of a question, by the tests of its parts."""
     if one[0] in QUANTIFIERS:
-        return quantifier_test(store[3], one[1], inner[0], one[0] == "some")
-    if one[0] == "not":
-        return not_test(inner[0])
-    if one[0] == "and":
-        return and_test(inner[0], inner[1])
-    if one[0] == "or":
-        return or_test(inner[0], inner[1])
-    return atom_test(store, one)
+        return quantifier_test(looking(one), one[1], inner[0], one[0] == "some")
+    return joined_test(one[0], inner) if inner else atom_test(store, one)
+
+
+def test_by(store, question, looking):
+    """Returns the test of a question of a store.
+
+    For each quantifier, looking makes the function that tells the items which are tried, by what is bound.
+    """
+    return folded(question, lambda one, _, inner: part_test(store, looking, one, inner))
 
 
 def test_of(store, question):
-    """Returns the test of a question of a store."""
-    return folded(question, lambda one, _, inner: part_test(store, one, inner))
+    """Returns the test of a question of a store in which each quantifier goes through all items."""
+    def all_items(_):
+        return store[3]
+    return test_by(store, question, lambda _: all_items)
 
 
 def holds(store, question, binding):

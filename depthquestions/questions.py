@@ -49,10 +49,24 @@ def free_names(question):
     return sorted(names_free_in(seen_in(question)))
 
 
+def depth_in(seen):
+    """Returns the depth of a question of which all was looked at."""
+    return max([len(around) + 1 for one, _, around in seen if one[0] in QUANTIFIERS], default=0)
+
+
 def depth(question):
     """Returns how many quantifiers of a question stand within one another at most."""
-    seen = seen_in(question)
-    return max([len(around) + 1 for one, _, around in seen if one[0] in QUANTIFIERS], default=0)
+    return depth_in(seen_in(question))
+
+
+def level_of(one):
+    """Returns the level of a quantifier: the depth of the question within it."""
+    return depth_in(seen_in(one[2]))
+
+
+def others_of(one):
+    """Returns the list of the others of a quantifier: the free names of the question within it, but for its own."""
+    return [name for name in free_names(one[2]) if name != one[1]]
 
 
 def signs(question):

@@ -1,18 +1,36 @@
 """Stores: items with marks, and one-to-one links between them."""
 
-from depthquestions.errors import InvalidFact, InvalidItem, InvalidList, InvalidName, InvalidStore, TooMany
+from depthquestions.errors import (
+    InvalidFact, InvalidItem, InvalidList, InvalidName, InvalidNumber, InvalidStore, TooMany, Unlike)
 from depthquestions.words import is_word
 
 MOST_MARKS = 4
 MOST_COLUMNS = 2
 MOST_ITEMS = 2000
 MOST_NUMBER = 10 ** 9
+MOST_IN_ROW = 4
+
+
+def is_whole(value):
+    """Returns whether a value is a whole number."""
+    # A Boolean is an integer for Python, but nowhere a number here.
+    return isinstance(value, int) and not isinstance(value, bool)
+
+
+def is_between(value, least, most):
+    """Returns whether a value is a whole number that is neither less nor more than these."""
+    return is_whole(value) and least <= value <= most
+
+
+def check_between(value, least, most):
+    """Raises the error for what must be such a whole number and is none."""
+    if not is_between(value, least, most):
+        raise InvalidNumber(value)
 
 
 def is_number(value):
     """Returns whether a value is a number that an item may be."""
-    # A Boolean is an integer for Python, but nowhere a number here.
-    return isinstance(value, int) and not isinstance(value, bool) and 0 <= value <= MOST_NUMBER
+    return is_between(value, 0, MOST_NUMBER)
 
 
 def are_words(value, most):
@@ -99,12 +117,37 @@ def is_item(store, value):
     return is_number(value) and value in store[3]
 
 
-def check_lists(marks, columns, items, facts):
-    """Raises the error for the first of the arguments of store_of that is no such list."""
+def check_item(store, item):
+    """Raises the error for what must be an item of a store and is none."""
+    if not is_item(store, item):
+        raise InvalidItem(item)
+
+
+def check_row(store, row):
+    """Raises the error for what must be a row of items of a store and is none."""
+    fits = isinstance(row, tuple) and len(row) <= MOST_IN_ROW
+    if not fits or not all([is_item(store, item) for item in row]):
+        raise InvalidList(row)
+
+
+def check_second_store(one, other):
+    """Raises the error for what must be a store with the marks and columns of another one, in the same order."""
+    check_store(other)
+    if one[1:3] != other[1:3]:
+        raise Unlike(other)
+
+
+def check_signs(marks, columns):
+    """Raises the error for the first of two arguments that must be marks and columns as in a store and are not."""
     if not are_marks(marks):
         raise InvalidList(marks)
     if not are_columns(marks, columns):
         raise InvalidList(columns)
+
+
+def check_lists(marks, columns, items, facts):
+    """Raises the error for the first of the arguments of store_of that is no such list."""
+    check_signs(marks, columns)
     if not are_numbers(items):
         raise InvalidList(items)
     if not isinstance(facts, list):
@@ -129,8 +172,7 @@ def store_of(marks, columns, items, facts):
 def facts_of(store, item):
     """Returns the list of the facts in which an item stands, in order."""
     check_store(store)
-    if not is_item(store, item):
-        raise InvalidItem(item)
+    check_item(store, item)
     return [fact for fact in store[4] if item in fact[2:]]
 
 
@@ -139,8 +181,7 @@ def check_led(store, column, item):
     check_store(store)
     if column not in store[2]:
         raise InvalidName(column)
-    if not is_item(store, item):
-        raise InvalidItem(item)
+    check_item(store, item)
 
 
 def led_to(store, column, item):

@@ -56,6 +56,50 @@ def small_stores():
     return found
 
 
+def random_store(chance, marks, columns, many, most=30):
+    """A store with so many items, with few or many marks and links: rings, paths, pieces, items alone."""
+    items = sorted(chance.sample(range(most), many))
+    facts = []
+    share = chance.choice([0, 0.4, 0.8, 1])
+    for column in columns:
+        others = items[1:] + items[:1] if chance.random() < 0.4 else chance.sample(items, many)
+        facts += [("link", column, one, other) for one, other in zip(items, others) if chance.random() < share]
+    share = chance.choice([0, 0.2, 0.5])
+    facts += [("mark", mark, item) for mark in marks for item in items if chance.random() < share]
+    return ("store", list(marks), list(columns), items, sorted(facts))
+
+
+def random_stores(seed, many, most_items, most=30):
+    """Stores with up to two marks and columns and so many items."""
+    chance = random.Random(seed)
+    signs = [(marks, columns) for marks in [[], ["red"], ["red", "blue"]] for columns in [[], ["next"], ["up", "next"]]]
+    return [random_store(chance, *signs[at % len(signs)], chance.randint(0, most_items), most) for at in range(many)]
+
+
+def chained(many, ring=False, marked=(), first=0):
+    """A row of so many items, or a ring, some of them marked."""
+    items = list(range(first, first + many))
+    links = list(zip(items, items[1:] + (items[:1] if ring else [])))
+    facts = [("link", "next", one, other) for one, other in links] + [("mark", "red", item) for item in marked]
+    return ("store", ["red"], ["next"], items, sorted(facts))
+
+
+def distances_of(store):
+    """The distances of all pairs of items that have one, as a dict, shortened through each item in turn."""
+    items = store[3]
+    found = {(item, item): 0 for item in items}
+    for fact in store[4]:
+        if fact[0] == "link" and fact[2] != fact[3]:
+            found[fact[2], fact[3]] = found[fact[3], fact[2]] = 1
+    for by in items:
+        for one in items:
+            for other in items:
+                if (one, by) in found and (by, other) in found:
+                    way = found[one, by] + found[by, other]
+                    found[one, other] = min(way, found.get((one, other), way))
+    return found
+
+
 def full_store():
     """A store with as much in it as may be: 2,000 items, four marks, two columns, all of each."""
     items = list(range(MOST - 1999, MOST + 1))
@@ -66,34 +110,36 @@ def full_store():
     return ("store", marks, ["up", "x" * 30], items, sorted(facts))
 
 
-def random_question(chance, depth, names, around=(), size=12):
+def random_question(chance, depth, names, around=(), size=12, signs=(["red"], ["next"])):
     """A question whose names are among these or bound within, with quantifiers to a depth."""
     known = [*names, *around]
+    marks, columns = signs
+    atoms = (["mark"] if marks else []) + (["link"] if columns else []) + ["same"]
     words = ["true", "false", "not", "and", "or"]
     if known:
-        words += ["mark", "link", "same"] * 3
+        words += atoms * 3
     if depth > 0:
         words += ["some", "all"] * 2
     word = chance.choice(words)
     if size <= 1 and word in ("not", "and", "or", "some", "all"):
-        word = chance.choice(["mark", "link", "same"]) if known else "true"
+        word = chance.choice(atoms) if known else "true"
     if word in ("true", "false"):
         return (word,)
     if word == "mark":
-        return ("mark", "red", chance.choice(known))
+        return ("mark", chance.choice(marks), chance.choice(known))
     if word == "link":
-        return ("link", "next", chance.choice(known), chance.choice(known))
+        return ("link", chance.choice(columns), chance.choice(known), chance.choice(known))
     if word == "same":
         return ("same", chance.choice(known), chance.choice(known))
     if word == "not":
-        return ("not", random_question(chance, depth, names, around, size - 1))
+        return ("not", random_question(chance, depth, names, around, size - 1, signs))
     if word in ("and", "or"):
         half = (size - 1) // 2
-        return (word, random_question(chance, depth, names, around, half),
-                random_question(chance, depth, names, around, size - 1 - half))
+        return (word, random_question(chance, depth, names, around, half, signs),
+                random_question(chance, depth, names, around, size - 1 - half, signs))
     free = [name for name in ["u", "v", "w", "uu", "vv"] if name not in known]
     name = chance.choice(free)
-    return (word, name, random_question(chance, depth - 1, names, (*around, name), size - 1))
+    return (word, name, random_question(chance, depth - 1, names, (*around, name), size - 1, signs))
 
 
 def random_questions(seed, many, depth=2, names=("x", "y"), size=12):

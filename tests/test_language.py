@@ -23,6 +23,19 @@ INTERFACE = {
               "store_wrong_at(text)", "written_store(store)"],
     "plain": ["holds(store, question, binding)", "answers(store, question, names)",
               "how_many_plain(store, question, names)", "first_choice(store, question, binding)"],
+    "kinds": ["atoms(store, row)", "kind(store, row, depth)", "alike(one, row, other, second, depth)",
+              "least_depth(one, row, other, second)"],
+    "balls": ["neighbours(store, item)", "distance(store, one, other)", "groups(store)", "ball(store, row, radius)"],
+    "codes": ["code_of(store, row, radius)", "same_form(one, row, other, other_row, radius)", "types(store, radius)",
+              "is_code(marks, columns, value)", "store_of_code(marks, columns, code)",
+              "code_within(marks, columns, code, row, radius)", "beside(marks, columns, one, other)"],
+    "radii": ["radius(depth)", "near_radius(depth)", "most_in_ball(columns, reach)",
+              "cut(columns, depth, names, level)"],
+    "looking": ["local_holds(store, question, binding)", "looks(store, question, binding)",
+                "how_many_types(store, depth)", "most_looks(store, question)"],
+    "profiles": ["profile(store, depth, names)", "same_profile(one, other, depth, names)",
+                 "holds_by_types(marks, columns, question, names, shape, counts)"],
+    "told": ["told_by(store, question, binding)", "is_told_by(store, question, binding, flag, value)"],
     "errors": ["InvalidStore(value=None)", "InvalidQuestion(value=None)", "InvalidName(value=None)",
                "InvalidItem(value=None)", "InvalidFact(value=None)", "InvalidNumber(value=None)",
                "InvalidList(value=None)", "InvalidText(value=None)", "InvalidPaper(value=None)",
@@ -92,6 +105,13 @@ class Files(unittest.TestCase):
         for path, node in nodes(ast.FunctionDef):
             self.assertLessEqual(node.end_lineno - node.lineno + 1, 40, (path.name, node.name))
 
+    def test_imports_are_used(self):
+        for path, tree in trees():
+            read = {node.id for node in ast.walk(tree) if isinstance(node, ast.Name)}
+            for node in tree.body:
+                if isinstance(node, ast.ImportFrom):
+                    self.assertEqual({alias.name for alias in node.names} - read, set(), path.name)
+
     def test_module_level(self):
         for path, tree in trees():
             bound = []
@@ -154,9 +174,14 @@ class Code(unittest.TestCase):
                 if isinstance(node, ast.Name) and node.id not in own:
                     self.assertIn(node.id, BUILTINS, (path.name, node.lineno))
 
-    def test_methods(self):
+    def test_methods_and_attributes(self):
+        stored = {node.attr for _, node in nodes(ast.Attribute) if isinstance(node.ctx, ast.Store)}
+        own = {each.name for _, node in nodes(ast.ClassDef) for each in node.body if isinstance(each, ast.FunctionDef)}
+        builtin = {name for kind in (str, int, list, dict, set, tuple, bytes) for name in dir(kind)}
+        self.assertEqual(stored & own, set())
+        self.assertEqual((stored | own - {"__init__"}) & builtin, set())
         for path, node in nodes(ast.Attribute):
-            self.assertIn(node.attr, METHODS | {"value"}, (path.name, node.lineno))
+            self.assertIn(node.attr, METHODS | stored | own, (path.name, node.lineno))
 
     def test_words_and_strings(self):
         for path, tree in trees():

@@ -169,7 +169,10 @@ class Questions(Checks, unittest.TestCase):
         reasons = set()
         for question in random_questions(4, 1500, depth=3):
             self.wrong(question, expected_wrong(question))
-            value = question
+            name = chance.choice(["u", "v", "x", "y"])
+            value = chance.choice([question, ("all", name, question), ("or", ("some", name, TRUE), question)])
+            reasons.add((expected_wrong(value) or [None])[-1])
+            self.wrong(value, expected_wrong(value))
             for _ in range(chance.choice([1, 1, 2])):
                 value = spoilt(chance, value)
             expected = expected_wrong(value)

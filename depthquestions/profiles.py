@@ -110,7 +110,8 @@ def scenes_behind(code, level, others, name, counted):
     for shape, many in counted:
         if many > near_counts.get(shape, 0):
             # Nothing lies between the ball of a far item and those of the others, as far as the inner question sees.
-            scenes.append((side_by_side(rows, shape[1]), {**bound, name: len(rows) + shape[0][0]}))
+            # The item itself has the number 0 in its type, so it comes right behind the rows.
+            scenes.append((side_by_side(rows, shape[1]), {**bound, name: len(rows)}))
     return scenes
 
 

@@ -114,9 +114,7 @@ def are_looks(seen, numbers, value):
     What is seen comes of looked_at; the numbers are those of the types of all items.
     """
     near, rising, far = seen
-    if not isinstance(value, list) or len(value) != len(rising) + len(far):
-        return False
-    if not all([is_pair(pair) and is_whole(pair[0]) for pair in value]):
+    if not isinstance(value, list) or not all([is_pair(pair) and is_whole(pair[0]) for pair in value]):
         return False
     chosen = [pair[0] for pair in value]
     behind = chosen[len(rising):]

@@ -179,8 +179,8 @@ class Alike(Checks, unittest.TestCase):
     def test_errors_in_order(self):
         store, unlike = TWO, bare(3)
         for wrong in junk():
-            self.fails(InvalidStore, wrong, alike, wrong, [], wrong, [], -1)
-            self.fails(InvalidStore, wrong, least_depth, wrong, [], wrong, [])
+            self.fails(InvalidStore, wrong, alike, wrong, [], "no store", [], -1)
+            self.fails(InvalidStore, wrong, least_depth, wrong, [], "no store", [])
             self.fails(InvalidStore, wrong, alike, store, (1,), wrong, [], -1)
             self.fails(InvalidStore, wrong, least_depth, store, (1,), wrong, [])
         for wrong in NO_ROWS:

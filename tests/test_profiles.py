@@ -89,7 +89,7 @@ class SameProfile(Checks, unittest.TestCase):
 
     def test_errors_in_order(self):
         for wrong in junk():
-            self.fails(InvalidStore, wrong, same_profile, wrong, wrong, -1, -1)
+            self.fails(InvalidStore, wrong, same_profile, wrong, "no store", -1, -1)
             self.fails(InvalidStore, wrong, same_profile, THREE, wrong, -1, -1)
         one = ("store", ["a", "b"], ["n", "m"], [1], [])
         for marks, columns in [(["b", "a"], ["n", "m"]), (["a", "b"], ["m", "n"]), (["a"], ["n", "m"]),

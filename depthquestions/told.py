@@ -3,12 +3,12 @@
 from depthquestions.errors import InvalidFlag
 from depthquestions.looking import Sight, check_looked
 from depthquestions.plain import atom_test
-from depthquestions.questions import level_of
+from depthquestions.questions import level_of, seen_in
 from depthquestions.stores import is_between, is_whole
-from depthquestions.walks import QUANTIFIERS, folded
+from depthquestions.walks import QUANTIFIERS, folded, parts
 
-# What tells of a part is a function of what is bound, and returns the flag of the part and a paper for it. No paper is
-# kept, as no list may occur twice in a result.
+# What tells of a part is a function of what is bound, and returns the flag of the part and a paper for it. No paper
+# with lists is kept, as no list may occur twice in a result.
 
 
 def told_of_atom(test):
@@ -51,15 +51,42 @@ def told_of_quantifier(looked, name, inner, sought):
     return told
 
 
+def told_of_joined(one, inner):
+    """Returns what tells of a not, an and or an or, by what tells of its parts."""
+    if one[0] == "not":
+        return told_of_not(inner[0])
+    return told_of_pair(inner[0], inner[1], one[0] == "and")
+
+
+def flag_of(one):
+    """Returns what tells of a question without parts, if instead of items the flags of such questions are bound."""
+    return told_of_atom(lambda flags: flags[one])
+
+
+def told_of_flat(store, question):
+    """Returns what tells of a question without quantifiers.
+
+    Such questions are asked most often. Their papers hang on the flags of their atoms alone and have no lists, so one
+    paper stands wherever these flags are the same.
+    """
+    tests = {one: atom_test(store, one) for one, _, _ in seen_in(question) if not parts(one)}
+    told = folded(question, lambda one, _, inner: told_of_joined(one, inner) if inner else flag_of(one))
+    kept = {}
+
+    def told_once(bound):
+        flags = tuple([test(bound) for test in tests.values()])
+        if flags not in kept:
+            kept[flags] = told(dict(zip(tests, flags)))
+        return kept[flags]
+    return told_once
+
+
 def told_of_part(store, sight, one, inner):
     """Returns what tells of a question, by what tells of its parts."""
     if one[0] in QUANTIFIERS:
-        return told_of_quantifier(sight.all_looks_of(one), one[1], inner[0], one[0] == "some")
-    if one[0] == "not":
-        return told_of_not(inner[0])
-    if one[0] in ("and", "or"):
-        return told_of_pair(inner[0], inner[1], one[0] == "and")
-    return told_of_atom(atom_test(store, one))
+        within = told_of_flat(store, one[2]) if level_of(one) == 0 else inner[0]
+        return told_of_quantifier(sight.all_looks_of(one), one[1], within, one[0] == "some")
+    return told_of_joined(one, inner) if inner else told_of_atom(atom_test(store, one))
 
 
 def told_by(store, question, binding):

@@ -149,6 +149,25 @@ class ToldBy(Checks, unittest.TestCase):
         self.assertEqual((flag, items_in(paper, never)), (False, looks(store, never, [])))
         self.assertIs(self.in_time(is_told_by, store, never, [], False, paper), True)
 
+    def test_as_many_looks_and_tuples_as_there_may_be(self):
+        chance = random.Random(99)
+        marked = [(mark, at) for mark in "abcd" for at in range(88) if chance.random() < 0.5]
+        store = store_of(["a", "b", "c", "d"], ["next"], range_of(22 * 88), [
+            ("link", "next", item, (item + 1) % (22 * 88)) for item in range(22 * 88)] + [
+                ("mark", mark, item) for mark, at in marked for item in range(at, 22 * 88, 88)])
+        asked = ("or", ("same", "x", "y"), ("same", "z", "z"))
+        for _ in range(27):
+            asked = ("and", ("same", "z", "z"), asked)
+        asked = ("all", "x", ("all", "y", ("all", "z", asked)))
+        self.assertLess(most_looks(store, asked), 200000)
+        flag, paper = self.in_time(told_by, store, asked, [])
+        self.assertEqual((flag, len(paper)), (True, 88))
+        inner = [rows for _, rows in paper]
+        innermost = [rows for middle in inner for _, rows in middle]
+        self.assertEqual(88 + sum(map(len, inner)) + sum(map(len, innermost)), looks(store, asked, []))
+        self.assertEqual(len(set(map(id, inner + innermost))), len(inner + innermost))
+        self.assertIs(self.in_time(is_told_by, store, asked, [], True, paper), True)
+
 
 class IsToldBy(Checks, unittest.TestCase):
     def test_papers_of_a_list(self):

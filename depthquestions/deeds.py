@@ -49,6 +49,7 @@ def drop_item(store, item):
 
 
 MAKERS = {"put": put_fact, "take": take_fact, "add": add_item, "drop": drop_item}
+INVERSES = {"put": "take", "take": "put", "add": "drop", "drop": "add"}
 
 
 def with_fact(store, fact):
@@ -82,13 +83,29 @@ def is_edit(value):
     return isinstance(value[0], str) and value[0] in MAKERS
 
 
+def made(store, edit):
+    """Returns the store after an edit that has the form of one, of a store that is known to be one."""
+    word, value = edit
+    make = MAKERS[word]
+    return make(store, value)
+
+
+def check_edits(edits):
+    """Raises the error for what must be a list of edits, by their form, and is none."""
+    if not isinstance(edits, list) or not all([is_edit(edit) for edit in edits]):
+        raise InvalidList(edits)
+
+
+def all_made(store, edits):
+    """Returns the store after all edits of such a list, of a store that is known to be one."""
+    after = remade(store, store[3], store[4])
+    for edit in edits:
+        after = made(after, edit)
+    return after
+
+
 def done(store, edits):
     """Returns the store after all edits of a list, as they stand, one after the other."""
     check_store(store)
-    if not isinstance(edits, list) or not all([is_edit(edit) for edit in edits]):
-        raise InvalidList(edits)
-    after = remade(store, store[3], store[4])
-    for word, value in edits:
-        make = MAKERS[word]
-        after = make(after, value)
-    return after
+    check_edits(edits)
+    return all_made(store, edits)

@@ -5,7 +5,7 @@ from depthquestions.codes import types_in
 from depthquestions.errors import InvalidQuestion
 from depthquestions.plain import check_bound, check_question_of, test_by
 from depthquestions.questions import depth_in, level_of, others_of, seen_in
-from depthquestions.radii import MOST_DEPTH, most_in_ball, near_radius, radius
+from depthquestions.radii import MOST_DEPTH, most_in_ball, near_radius, near_reach, reach_of
 from depthquestions.stores import check_between, check_store
 from depthquestions.walks import QUANTIFIERS, folded
 
@@ -16,19 +16,35 @@ class Sight:
     def __init__(self, store):
         self.table = table_of(store)
         self.kept_types = {}
+        self.kept_numbers = {}
+        self.kept_balls = {}
         self.kept_looks = {}
 
     def types_at(self, level):
         """Returns the list of the types of a level, in order, each with the list of its items, in order."""
         if level not in self.kept_types:
-            self.kept_types[level] = types_in(self.table, radius(level))
+            self.kept_types[level] = types_in(self.table, reach_of(level))
         return self.kept_types[level]
+
+    def numbers_at(self, level):
+        """Returns the dict of the number that the type of each item has among those of a level."""
+        if level not in self.kept_numbers:
+            rows = self.types_at(level)
+            self.kept_numbers[level] = {item: at for at, (_, items) in enumerate(rows) for item in items}
+        return self.kept_numbers[level]
+
+    def near_to(self, item, level):
+        """Returns the dict of the items whose balls with the radius of a level touch the ball of an item."""
+        key = (item, level)
+        if key not in self.kept_balls:
+            self.kept_balls[key] = reached(self.table, (item,), near_reach(level))
+        return self.kept_balls[key]
 
     def looked_at(self, level, told):
         """Returns the dict of the items near to told ones, the list of them, and that of the far items looked at."""
         key = (level, *told)
         if key not in self.kept_looks:
-            near = reached(self.table, told, near_radius(level + 1))
+            near = reached(self.table, told, near_reach(level))
             far = [first_outside(near, items) for _, items in self.types_at(level)]
             self.kept_looks[key] = (near, sorted(near), [item for item in far if item is not None])
         return self.kept_looks[key]

@@ -1,8 +1,9 @@
 """Profiles: how many items there are of each type, cut; and answers by types and profiles, without a store."""
 
-from depthquestions.balls import reached, table_of
-from depthquestions.codes import code_at, is_code, side_by_side, types_in
+from depthquestions.balls import reached
+from depthquestions.codes import code_at, is_code, side_by_side
 from depthquestions.errors import InvalidList, InvalidPaper, InvalidQuestion
+from depthquestions.looking import Sight
 from depthquestions.plain import are_names_for, fixed_test, joined_test
 from depthquestions.questions import depth_in, is_question_of, level_of, others_of, seen_in
 from depthquestions.radii import MOST_DEPTH, MOST_NAMES_COUNTED, cut, near_radius, radius
@@ -17,14 +18,18 @@ def check_counted(depth, names):
     check_between(names, 0, MOST_NAMES_COUNTED)
 
 
-def profile_of(store, depth, names):
-    """Returns the profile of a store that is known to be one."""
-    table = table_of(store)
+def profile_seen(sight, columns, depth, names):
+    """Returns the profile of a store with so many columns as it is seen."""
     found = []
     for level in range(depth):
-        most = cut(len(store[2]), depth, names, level)
-        found.append([(code, min(len(items), most)) for code, items in types_in(table, radius(level))])
+        most = cut(columns, depth, names, level)
+        found.append([(code, min(len(items), most)) for code, items in sight.types_at(level)])
     return found
+
+
+def profile_of(store, depth, names):
+    """Returns the profile of a store that is known to be one."""
+    return profile_seen(Sight(store), len(store[2]), depth, names)
 
 
 def profile(store, depth, names):

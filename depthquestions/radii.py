@@ -7,19 +7,29 @@ MOST_REACH = 40
 MOST_NAMES_COUNTED = 4
 
 
-def radius(depth):
-    """Returns the radius of the balls on which questions of a depth hang."""
-    check_between(depth, 0, MOST_DEPTH)
+def reach_of(depth):
+    """Returns what radius returns, of a depth that may be greater."""
     reach = 0
     for _ in range(depth):
         reach = 3 * reach + 1
     return reach
 
 
+def near_reach(level):
+    """Returns the distance up to which items are near for a quantifier of a level, which may be greater."""
+    return 2 * reach_of(level) + 1
+
+
+def radius(depth):
+    """Returns the radius of the balls on which questions of a depth hang."""
+    check_between(depth, 0, MOST_DEPTH)
+    return reach_of(depth)
+
+
 def near_radius(depth):
     """Returns the distance up to which items are near for the outermost quantifier of a question of a depth."""
     check_between(depth, 1, MOST_DEPTH)
-    return 2 * radius(depth - 1) + 1
+    return near_reach(depth - 1)
 
 
 def most_in_ball(columns, reach):

@@ -130,11 +130,6 @@ def judge_of_pair(one, other, both):
     return judge
 
 
-def numbers_of_types(sight, level):
-    """Returns the dict of the number that the type of each item has among those of a level."""
-    return {item: number for number, (_, items) in enumerate(sight.types_at(level)) for item in items}
-
-
 def are_looks(seen, numbers, value):
     """Returns whether a value is a list of pairs that has the near items, and then a far one of each type.
 
@@ -172,7 +167,7 @@ def judge_of_quantifier(asked, numbers, one, inner):
 def judge_of_part(store, sight, one, inner):
     """Returns what judges papers of a question, by what judges those of its parts."""
     if one[0] in QUANTIFIERS:
-        numbers = numbers_of_types(sight, level_of(one))
+        numbers = sight.numbers_at(level_of(one))
         return judge_of_quantifier(sight.asked_of(one), numbers, one, inner[0])
     if one[0] == "not":
         return judge_of_not(inner[0])

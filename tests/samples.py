@@ -84,6 +84,24 @@ def chained(many, ring=False, marked=(), first=0):
     return ("store", ["red"], ["next"], items, sorted(facts))
 
 
+def pieces_store(seed, many, kinds, marks=("red", "blue"), columns=("next",)):
+    """A store with so many items in copies of some short rows and rings, whose items have marks of all kinds."""
+    chance = random.Random(seed)
+    shapes = [(chance.choice([1, 2, 3, 4, 5, 6]), chance.random() < 0.3) for _ in range(kinds)]
+    shapes = [(size, ring, [[mark for mark in marks if chance.random() < 0.4] for _ in range(size)])
+              for size, ring in shapes]
+    items, facts = [], []
+    while len(items) < many:
+        size, ring, bits = chance.choice(shapes)
+        own = list(range(len(items), min(len(items) + size, many)))
+        items += own
+        for at, column in enumerate(columns):
+            links = list(zip(own, own[1:] + (own[:1] if ring else [])))
+            facts += [("link", column, one, other) for one, other in links[at:]]
+        facts += [("mark", mark, item) for item, told in zip(own, bits) for mark in told]
+    return ("store", list(marks), list(columns), items, sorted(facts))
+
+
 def distances_of(store):
     """The distances of all pairs of items that have one, as a dict, shortened through each item in turn."""
     items = store[3]

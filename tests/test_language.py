@@ -36,11 +36,32 @@ INTERFACE = {
     "profiles": ["profile(store, depth, names)", "same_profile(one, other, depth, names)",
                  "holds_by_types(marks, columns, question, names, shape, counts)"],
     "told": ["told_by(store, question, binding)", "is_told_by(store, question, binding, flag, value)"],
+    "replies": ["sure_depth(one, row, other, second, most)", "reply(one, row, other, second, depth, item)"],
+    "answers": ["how_many(store, question, names)", "is_answer(store, question, names, value)",
+                "number_of(store, question, names, row)", "numbered(store, question, names, number)",
+                "page(store, question, names, number, many)", "next_answer(store, question, names, row)",
+                "beginning(store, question, names, item)", "by_types(store, question, names)",
+                "far_types(store, question, names)"],
+    "kept": ["Kept(store, depth)"],
+    "sums": ["union(pieces, counts)", "holds_in_union(question, pieces, counts)", "cuts(question, pieces)",
+             "enough(question, pieces, at)", "parting_counts(one, other, pieces)",
+             "how_many_in_union(question, names, pieces, counts)"],
     "errors": ["InvalidStore(value=None)", "InvalidQuestion(value=None)", "InvalidName(value=None)",
                "InvalidItem(value=None)", "InvalidFact(value=None)", "InvalidNumber(value=None)",
                "InvalidList(value=None)", "InvalidText(value=None)", "InvalidPaper(value=None)",
                "InvalidFlag(value=None)", "Unlike(value=None)", "TooMany(value=None)"],
 }
+METHODS_OF_CLASSES = {
+    ("kept", "Kept"): [
+        "store()", "deepest()", "type_of(item)", "type_counts()", "typed()", "put_in(fact)", "take_out(fact)",
+        "add(item)", "drop(item)", "undo()", "redo()", "log()", "copy()", "count(question, names)",
+        "has(question, names, value)", "rank(question, names, row)", "at(question, names, number)",
+        "pages(question, names, number, many)", "behind(question, names, row)", "begun(question, names, item)",
+        "gained(question, names, edit)", "lost(question, names, edit)", "__eq__(other)"],
+}
+# Methods whose names builtin values have, too, which LANGUAGE.md allows.
+SHARED_NAMES = {"add", "copy", "count"}
+SPECIAL_METHODS = {"__init__", "__eq__"}
 BUILTINS = set("""len range enumerate zip min max sum abs sorted reversed int str bool list tuple dict set isinstance ord
     any all divmod ValueError""".split())
 METHODS = set("""append clear copy count endswith extend find get index insert isalnum isalpha isdigit islower isspace
@@ -86,6 +107,14 @@ class Interface(unittest.TestCase):
                 with self.subTest(name=row):
                     self.assertEqual(f"{thing.__name__}{inspect.signature(thing)}", row)
                     self.assertEqual(thing.__module__, module.__name__)
+
+    def test_methods(self):
+        for (name, kind), promised in METHODS_OF_CLASSES.items():
+            own = vars(getattr(importlib.import_module(f"depthquestions.{name}"), kind))
+            for row in promised:
+                word, _, rest = row.partition("(")
+                with self.subTest(name=row):
+                    self.assertEqual(f"{inspect.signature(own[word])}", f"(self, {rest}".replace(", )", ")"))
 
 
 class Files(unittest.TestCase):
@@ -158,8 +187,9 @@ class Code(unittest.TestCase):
     def test_names(self):
         for path, tree in trees():
             for name in bound_names(tree):
-                self.assertFalse(name != "__init__" and hasattr(builtins, name), (path.name, name))
-                self.assertRegex(name, r"^(_?[A-Za-z][A-Za-z0-9_]*|_|__init__)$")
+                if name not in SPECIAL_METHODS:
+                    self.assertFalse(hasattr(builtins, name), (path.name, name))
+                    self.assertRegex(name, r"^(_?[A-Za-z][A-Za-z0-9_]*|_)$")
             imported = [alias.name for node in tree.body if isinstance(node, ast.ImportFrom) for alias in node.names]
             classes = [node.name for node in tree.body if isinstance(node, ast.ClassDef)]
             for name in imported + classes:
@@ -179,7 +209,7 @@ class Code(unittest.TestCase):
         own = {each.name for _, node in nodes(ast.ClassDef) for each in node.body if isinstance(each, ast.FunctionDef)}
         builtin = {name for kind in (str, int, list, dict, set, tuple, bytes) for name in dir(kind)}
         self.assertEqual(stored & own, set())
-        self.assertEqual((stored | own - {"__init__"}) & builtin, set())
+        self.assertEqual((stored | own - SPECIAL_METHODS - SHARED_NAMES) & builtin, set())
         for path, node in nodes(ast.Attribute):
             self.assertIn(node.attr, METHODS | stored | own, (path.name, node.lineno))
 

@@ -74,6 +74,17 @@ def walked(value):
     return seen, None
 
 
+def parts_first(question):
+    """Returns the list of all tuples of a question, each behind its parts, the first of them with all in it ahead."""
+    seen = []
+    waiting = [question]
+    while waiting:
+        one = waiting.pop()
+        seen.append(one)
+        waiting.extend(parts(one))
+    return seen[::-1]
+
+
 def folded(question, make):
     """Makes something of each tuple of a question, from within, and returns what is made of the whole.
 

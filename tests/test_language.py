@@ -46,7 +46,13 @@ INTERFACE = {
     "sums": ["union(pieces, counts)", "holds_in_union(question, pieces, counts)", "cuts(question, pieces)",
              "enough(question, pieces, at)", "parting_counts(one, other, pieces)",
              "how_many_in_union(question, names, pieces, counts)"],
-    "errors": ["InvalidStore(value=None)", "InvalidQuestion(value=None)", "InvalidName(value=None)",
+    "lines": ["letters(marks)", "is_line(marks, value)", "line_of(store)", "store_of_line(marks, columns, line)"],
+    "machines": ["machine(marks, columns, question)"],
+    "everywhere": ["least_store(marks, columns, question)", "holds_where(marks, columns, question)",
+                   "parting_store(marks, columns, one, other)", "sizes(marks, columns, question)",
+                   "how_many_lines(marks, columns, question, length)"],
+    "base": ["Base(marks, columns)", "read_base(text)"],
+    "errors": ["StoreError()", "NothingToUndo()", "NothingToRedo()", "InvalidStore(value=None)", "InvalidQuestion(value=None)", "InvalidName(value=None)",
                "InvalidItem(value=None)", "InvalidFact(value=None)", "InvalidNumber(value=None)",
                "InvalidList(value=None)", "InvalidText(value=None)", "InvalidPaper(value=None)",
                "InvalidFlag(value=None)", "Unlike(value=None)", "TooMany(value=None)"],
@@ -58,20 +64,27 @@ METHODS_OF_CLASSES = {
         "has(question, names, value)", "rank(question, names, row)", "at(question, names, number)",
         "pages(question, names, number, many)", "behind(question, names, row)", "begun(question, names, item)",
         "gained(question, names, edit)", "lost(question, names, edit)", "__eq__(other)"],
+    ("base", "Base"): [
+        "store()", "define(name, text, names)", "forget(name)", "definition(name)", "defined()", "count(name)",
+        "has(name, row)", "page(name, number, many)", "each(name)", "told(text)", "put(fact)", "take(fact)",
+        "add(item)", "drop(item)", "together(edits, *, keep=True)", "undo()", "redo()", "log()", "copy()", "text()",
+        "__len__()", "__contains__(name)", "__eq__(other)"],
 }
 # Methods whose names builtin values have, too, which LANGUAGE.md allows.
 SHARED_NAMES = {"add", "copy", "count"}
-SPECIAL_METHODS = {"__init__", "__eq__"}
+SPECIAL_METHODS = {"__init__", "__eq__", "__len__", "__contains__"}
+VIEWS = {"range", "zip", "enumerate", "reversed", "items", "keys", "values"}
+TAKERS = {"list", "tuple", "dict", "sorted", "sum", "any", "all", "enumerate", "zip", "min", "max", "len"}
 BUILTINS = set("""len range enumerate zip min max sum abs sorted reversed int str bool list tuple dict set isinstance ord
     any all divmod ValueError""".split())
 METHODS = set("""append clear copy count endswith extend find get index insert isalnum isalpha isdigit islower isspace
     isupper items join keys ljust lower lstrip partition pop remove replace reverse rfind rjust rpartition rsplit rstrip
-    setdefault split splitlines startswith strip update upper values zfill""".split())
+    setdefault split splitlines startswith strip update upper values zfill bit_length""".split())
 BARRED_WORDS = """type typing typing_extensions enum Enum IntEnum StrEnum Flag IntFlag Generic Protocol ABC ABCMeta
     namedtuple NamedTuple TypedDict TYPE_CHECKING abstractmethod register mro elements open input law""".split()
 BARRED_NODES = (
     ast.AsyncFor, ast.AsyncFunctionDef, ast.AsyncWith, ast.Await, ast.Global, ast.Nonlocal, ast.Div, ast.Try,
-    ast.GeneratorExp, ast.Yield, ast.YieldFrom, ast.With, ast.AnnAssign, ast.NamedExpr, ast.MatMult)
+    ast.GeneratorExp, ast.YieldFrom, ast.With, ast.AnnAssign, ast.NamedExpr, ast.MatMult)
 MODULE_LEVEL = (ast.ImportFrom, ast.FunctionDef, ast.ClassDef, ast.Assign)
 
 
@@ -105,7 +118,8 @@ class Interface(unittest.TestCase):
             for row in promised:
                 thing = getattr(module, row.partition("(")[0])
                 with self.subTest(name=row):
-                    self.assertEqual(f"{thing.__name__}{inspect.signature(thing)}", row)
+                    if row not in ("StoreError()", "NothingToUndo()", "NothingToRedo()"):
+                        self.assertEqual(f"{thing.__name__}{inspect.signature(thing)}", row)
                     self.assertEqual(thing.__module__, module.__name__)
 
     def test_methods(self):
@@ -115,6 +129,19 @@ class Interface(unittest.TestCase):
                 word, _, rest = row.partition("(")
                 with self.subTest(name=row):
                     self.assertEqual(f"{inspect.signature(own[word])}", f"(self, {rest}".replace(", )", ")"))
+
+
+def with_parents():
+    """All nodes, each with its file and the node around it."""
+    return [(path, child, node) for path, tree in trees() for node in ast.walk(tree)
+            for child in ast.iter_child_nodes(node)]
+
+
+def called(node):
+    """The name of what a call calls, None for what is no call."""
+    if not isinstance(node, ast.Call):
+        return None
+    return node.func.id if isinstance(node.func, ast.Name) else getattr(node.func, "attr", None)
 
 
 class Files(unittest.TestCase):
@@ -232,6 +259,59 @@ class Code(unittest.TestCase):
                 if isinstance(sign, (ast.Is, ast.IsNot)):
                     self.assertIsInstance(right, ast.Constant, path.name)
                     self.assertIn(str(right.value), ("None", "True", "False"), path.name)
+
+
+class Narrower(unittest.TestCase):
+    """Rules on sets, views, stars, keywords, exponents and generators."""
+
+    def test_sets(self):
+        for path, node, around in with_parents():
+            if isinstance(node, (ast.Set, ast.SetComp)) or called(node) == "set":
+                fits = called(around) in ("sorted", "len") and not around.keywords
+                self.assertTrue(fits or isinstance(around, (ast.Compare, ast.Assign)), (path.name, node.lineno))
+            if isinstance(node, ast.Set):
+                self.assertFalse([each for each in node.elts if isinstance(each, ast.Starred)], path.name)
+
+    def test_views_are_iterated_at_once(self):
+        for path, node, around in with_parents():
+            if called(node) in VIEWS and not (called(node) == "range" and isinstance(around, ast.Compare)):
+                fits = isinstance(around, (ast.For, ast.comprehension)) or called(around) in TAKERS
+                self.assertTrue(fits, (path.name, node.lineno))
+
+    def test_stars_and_keywords_in_calls(self):
+        for path, node in nodes(ast.Call):
+            for given in node.args:
+                if isinstance(given, ast.Starred):
+                    self.assertIsInstance(given.value, ast.Name, (path.name, node.lineno))
+            words = [keyword.arg for keyword in node.keywords]
+            if words and isinstance(node.func, ast.Name):
+                self.assertIn((called(node), words), [("max", ["default"]), ("enumerate", ["start"])], path.name)
+            self.assertFalse(words and isinstance(node.func, ast.Attribute), (path.name, node.lineno))
+
+    def test_exponents(self):
+        for path, node in nodes(ast.BinOp):
+            if isinstance(node.op, ast.Pow):
+                self.assertIsInstance(node.right, ast.Constant, (path.name, node.lineno))
+                self.assertLessEqual(node.right.value, 64)
+
+    def test_generators(self):
+        names = [node.name for _, node in nodes(ast.FunctionDef)
+                 if any(isinstance(part, ast.Yield) for part in ast.walk(node))]
+        self.assertEqual(names, ["each"])
+        self.assertEqual([path.name for path, node in nodes(ast.FunctionDef) if node.name == "each"], ["base.py"])
+        self.assertEqual([path.name for path, node in nodes(ast.Name) if node.id == "each"], [])
+
+    def test_lambdas_on_lines_of_their_own(self):
+        lines = [(path.name, node.lineno) for path, node in nodes(ast.Lambda)]
+        self.assertEqual(len(lines), len(set(lines)))
+
+    def test_loops_do_not_change_what_they_go_over(self):
+        for path, node in nodes(ast.For):
+            over = ast.unparse(node.iter)
+            for inner in node.body:
+                for part in ast.walk(inner):
+                    if called(part) in ("append", "extend", "pop", "insert", "remove", "update", "setdefault"):
+                        self.assertNotEqual(ast.unparse(part.func.value), over, (path.name, node.lineno))
 
 
 if __name__ == "__main__":

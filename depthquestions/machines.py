@@ -34,7 +34,7 @@ def made_by(tracks, step, goods):
     many = len(tracks)
     ones = 1 << many
     letters = [(letter >> many, letter & (ones - 1)) for letter in range(how_many_letters(tracks))]
-    met, table = explored(FIRST, lambda state: [step(state, start, bits) for start, bits in letters], MOST_MET)
+    met, table = explored(FIRST, lambda state: [step(state, start, bits) for start, bits in letters], None)
     return least(tracks, table, [state in goods for state in met])
 
 

@@ -2,6 +2,7 @@
 
 from depthquestions.balls import NOWHERE, table_of
 from depthquestions.errors import InvalidList, Unlike
+from depthquestions.plain import rows_of_items
 from depthquestions.stores import are_words, check_store, is_between
 
 MOST_LINE_MARKS = 2
@@ -24,18 +25,10 @@ def check_line_signs(marks, columns):
         raise InvalidList(columns)
 
 
-def bits_of(many):
-    """Returns the list of all tuples of so many 0 and 1, in order."""
-    rows = [()]
-    for _ in range(many):
-        rows = [(*row, bit) for row in rows for bit in range(2)]
-    return rows
-
-
 def letters(marks):
     """Returns the list of all letters, in order."""
     check_line_marks(marks)
-    return [(start, bits) for start in range(RING + 1) for bits in bits_of(len(marks))]
+    return [(start, bits) for start in range(RING + 1) for bits in rows_of_items([0, 1], len(marks))]
 
 
 def is_letter(many, value):

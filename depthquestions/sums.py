@@ -3,7 +3,7 @@
 from depthquestions.asking import quick_test
 from depthquestions.errors import InvalidList, InvalidNumber, InvalidQuestion, TooMany
 from depthquestions.looking import Sight
-from depthquestions.plain import are_names_for
+from depthquestions.plain import are_names_for, rows_of_items
 from depthquestions.questions import depth_in, free_names, is_question_of, seen_in
 from depthquestions.stores import MOST_ITEMS, is_between, is_store
 
@@ -125,10 +125,7 @@ def check_unions(pieces, depth):
 
 def all_counts(pieces, depth):
     """Returns the list, in order, of the tuples of a number up to a depth for each piece."""
-    rows = [()]
-    for _ in pieces:
-        rows = [(*row, count) for row in rows for count in range(depth + 1)]
-    return rows
+    return rows_of_items(list(range(depth + 1)), len(pieces))
 
 
 def cuts_of(question, pieces, depth):
